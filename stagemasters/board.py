@@ -1,6 +1,8 @@
 """The calls on one object, read from one list and answered one behind another."""
 
-from stagemasters.settings import set_fader, set_flash, set_grand, set_master, set_patch, set_played, set_solo
+from stagemasters.questions import tell_level, tell_outs, tell_why
+from stagemasters.settings import set_black, set_fader, set_flash, set_free, set_grand, set_master
+from stagemasters.settings import set_parked, set_patch, set_played, set_solo
 from stagemasters.state import Board
 
 PATCH = 0
@@ -9,9 +11,15 @@ MASTER = 2
 FADER = 3
 FLASH = 4
 SOLO = 5
+GRAND = 6
+BLACK = 7
+PARK = 8
+FREE = 9
+LEVEL = 10
+OUTS = 11
 
-# How many whole numbers stand behind each call's own number, ahead of its row; the last is grand's.
-HOW_MANY_NUMBERS = (0, 2, 2, 2, 2, 2, 1)
+# How many whole numbers stand behind each call's own number, ahead of its row; the last is why's.
+HOW_MANY_NUMBERS = (0, 2, 2, 2, 2, 2, 1, 1, 2, 1, 1, 0, 1)
 
 
 def answers(calls):
@@ -52,4 +60,16 @@ def answer_call(board, call, numbers, row):
         return set_flash(board, numbers[0], numbers[1])
     if call == SOLO:
         return set_solo(board, numbers[0], numbers[1])
-    return set_grand(board, numbers[0])
+    if call == GRAND:
+        return set_grand(board, numbers[0])
+    if call == BLACK:
+        return set_black(board, numbers[0])
+    if call == PARK:
+        return set_parked(board, numbers[0], numbers[1])
+    if call == FREE:
+        return set_free(board, numbers[0])
+    if call == LEVEL:
+        return tell_level(board, numbers[0])
+    if call == OUTS:
+        return tell_outs(board)
+    return tell_why(board, numbers[0])

@@ -2,15 +2,12 @@
 
 from stagemasters.bounds import is_channel, is_choice, is_level, is_master
 from stagemasters.patch import PatchFault, read_patch
+from stagemasters.refusals import FAULTY, NO_SUCH, NOT_NOW, TOO_LONG
 from stagemasters.state import HOLDS_DOWN, Master
 
 MOST_BYTES = 8192
 
 DONE = 0
-NO_SUCH = -1
-TOO_LONG = -2
-NOT_NOW = -3
-FAULTY = -6
 
 
 def set_patch(board, text):
@@ -96,4 +93,27 @@ def set_grand(board, level):
     if not is_level(level):
         return [NO_SUCH]
     board.grand = level
+    return [DONE]
+
+
+def set_black(board, on):
+    if not is_choice(on):
+        return [NO_SUCH]
+    board.black = on
+    return [DONE]
+
+
+def set_parked(board, channel, level):
+    if not is_channel(channel) or not is_level(level):
+        return [NO_SUCH]
+    board.parked[channel] = level
+    return [DONE]
+
+
+def set_free(board, channel):
+    if not is_channel(channel):
+        return [NO_SUCH]
+    if channel not in board.parked:
+        return [NOT_NOW]
+    board.parked.pop(channel)
     return [DONE]

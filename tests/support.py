@@ -4,6 +4,9 @@ from stagemasters.board import answers, answers_on
 from stagemasters.state import Board
 
 GREATEST = 4294967295
+CHANNELS = range(1, 65)
+MASTERS = range(8)
+CURVES = ("linear", "square", "soft", "switch")
 ADDS = 0
 HOLDS_DOWN = 1
 
@@ -13,16 +16,16 @@ def patch(text):
     return [0, len(signs)] + signs
 
 
-def play(channel, level):
-    return [1, channel, level]
+def play(channel, at):
+    return [1, channel, at]
 
 
 def master(number, kind, *levels):
     return [2, number, kind, len(levels)] + list(levels)
 
 
-def fader(number, level):
-    return [3, number, level]
+def fader(number, at):
+    return [3, number, at]
 
 
 def flash(number, on):
@@ -33,8 +36,32 @@ def solo(number, on):
     return [5, number, on]
 
 
-def grand(level):
-    return [6, level]
+def grand(at):
+    return [6, at]
+
+
+def black(on):
+    return [7, on]
+
+
+def park(channel, at):
+    return [8, channel, at]
+
+
+def free(channel):
+    return [9, channel]
+
+
+def level(channel):
+    return [10, channel]
+
+
+def outs():
+    return [11]
+
+
+def why(channel):
+    return [12, channel]
 
 
 def joined(calls):
@@ -78,3 +105,45 @@ def told_of(board):
 
 def state_after(*calls):
     return told_of(board_after(*calls))
+
+
+def asked_after(*calls):
+    """All that can be asked of a board: each channel's level and why, and the outs."""
+    asking = [level(channel) for channel in CHANNELS] + [why(channel) for channel in CHANNELS] + [outs()]
+    return answered(*calls, *asking)[len(calls):]
+
+
+def line(number=1, channel=1, curve="linear", limit=100, load=0, phase=1):
+    return f"{number} {channel} {curve} {limit} {load} {phase}\n"
+
+
+def drawn_levels(chance, most=64):
+    """Channels, rising, and levels by turns."""
+    channels = sorted(chance.sample(CHANNELS, chance.randint(0, most)))
+    return [number for channel in channels for number in (channel, drawn_level(chance))]
+
+
+def drawn_level(chance):
+    return chance.choice((0, 1, 49, 50, 51, 99, 100, chance.randint(0, 100), chance.randint(0, 100)))
+
+
+def drawn_patch(chance, most=128):
+    numbers = sorted(chance.sample(range(1, 129), chance.randint(0, most)))
+    return patch("".join(
+        line(number, chance.choice(CHANNELS), chance.choice(CURVES), chance.randint(1, 100), chance.randint(0, 5000),
+             chance.randint(1, 3))
+        for number in numbers
+    ))
+
+
+def drawn_settings(chance, channels=CHANNELS):
+    """Calls that set a board: for each master its kind and levels, fader, flash and solo, and all the rest."""
+    calls = [drawn_patch(chance), grand(drawn_level(chance))]
+    calls += [play(channel, drawn_level(chance)) for channel in channels]
+    for number in MASTERS:
+        kind = chance.choice((ADDS, HOLDS_DOWN))
+        calls += [master(number, kind, *drawn_levels(chance)), fader(number, drawn_level(chance))]
+        if kind == ADDS:
+            calls += [flash(number, int(chance.random() < 0.2)), solo(number, int(chance.random() < 0.1))]
+    calls += [park(channel, drawn_level(chance)) for channel in channels if chance.random() < 0.1]
+    return calls + [black(int(chance.random() < 0.1))]

@@ -5,7 +5,8 @@ import unittest
 
 from stagemasters.board import answers
 from support import (
-    ADDS, GREATEST, HOLDS_DOWN, answered, fader, flash, grand, joined, master, patch, play, solo, state_after,
+    ADDS, GREATEST, HOLDS_DOWN, answered, asked_after, black, fader, flash, free, grand, joined, level, master, outs,
+    park, patch, play, solo, state_after, why,
 )
 
 GOOD = "1 1 linear 100 0 1\n"
@@ -15,7 +16,12 @@ MIXED = (
     (patch("\n" * 8193), [1, -2]), (master(1, HOLDS_DOWN, 1, 2, 3, 4), [1, 0]), (fader(1, 100), [1, 0]),
     (flash(1, 1), [1, -3]), (flash(0, 1), [1, 0]), (solo(1, 2), [1, -1]), (solo(0, 1), [1, 0]), (patch(""), [1, 0]),
     (master(2, ADDS, 9), [1, -1]), (grand(101), [1, -1]), (grand(0), [1, 0]), (play(GREATEST, GREATEST), [1, -1]),
-    (patch("x"), [3, -6, 0, 1]),
+    (patch("x"), [3, -6, 0, 1]), (grand(50), [1, 0]), (solo(0, 0), [1, 0]), (play(1, 33), [1, 0]),
+    (level(1), [3, 33, 2, 17]), (outs(), [1, 0]), (patch(GOOD), [1, 1]), (outs(), [2, 1, 43]), (why(1), [2, 1, 0]),
+    (fader(1, 50), [1, 0]), (level(1), [3, 3267, 200, 16]), (why(1), [2, 1, 1]), (level(0), [1, -1]),
+    (why(65), [1, -1]), (black(2), [1, -1]), (black(1), [1, 0]), (level(1), [3, 0, 1, 0]), (free(1), [1, -3]),
+    (park(1, 101), [1, -1]), (park(1, 20), [1, 0]), (level(1), [3, 20, 1, 20]), (outs(), [2, 1, 51]),
+    (why(1), [2, 10, 1]), (free(65), [1, -1]), (free(1), [1, 0]), (outs(), [2, 1, 0]),
 )
 
 
@@ -24,6 +30,14 @@ class TheList(unittest.TestCase):
         self.assertEqual(
             answers([1, 64, 100, 2, 7, 1, 4, 1, 50, 2, 60, 4, 7, 1, 5, 6, 1, 3, 7, 100, 6, 100, 0, 2, 65, 10, 0, 0]),
             [1, 0, 1, 0, 1, -3, 1, 0, 1, 0, 1, 0, 3, -6, 0, 1, 1, 0],
+        )
+        self.assertEqual(
+            answers(
+                [1, 64, 77, 6, 50, 10, 64, 12, 64, 11, 8, 64, 5, 10, 64, 12, 64]
+                + [9, 64, 9, 64, 7, 1, 10, 64, 12, 0]
+            ),
+            [1, 0, 1, 0, 3, 77, 2, 39, 2, 1, 0, 1, 0, 1, 0, 3, 5, 1, 5, 2, 10, 0]
+            + [1, 0, 1, -3, 1, 0, 3, 0, 1, 0, 1, -1],
         )
 
     def test_each_call_alone(self):
@@ -34,6 +48,12 @@ class TheList(unittest.TestCase):
         self.assertEqual(answers([4, 0, 0]), [1, 0])
         self.assertEqual(answers([5, 0, 0]), [1, 0])
         self.assertEqual(answers([6, 0]), [1, 0])
+        self.assertEqual(answers([7, 0]), [1, 0])
+        self.assertEqual(answers([8, 1, 0]), [1, 0])
+        self.assertEqual(answers([9, 1]), [1, -3])
+        self.assertEqual(answers([10, 1]), [3, 0, 1, 0])
+        self.assertEqual(answers([11]), [1, 0])
+        self.assertEqual(answers([12, 1]), [2, 0, 0])
 
     def test_answers_stand_one_behind_another(self):
         calls = joined([call for call, told in MIXED])
@@ -98,8 +118,11 @@ class NothingKept(unittest.TestCase):
         self.assertEqual(answers(master(1, HOLDS_DOWN, 1, 50)), [1, 0])
         self.assertEqual(answers(flash(1, 1)), [1, 0])
         at_first = state_after()
+        asked_at_first = asked_after()
         answers(joined([call for call, told in MIXED]))
+        answers(joined([patch(GOOD), play(1, 50), grand(5), black(1), park(2, 5)]))
         self.assertEqual(state_after(), at_first)
+        self.assertEqual(asked_after(), asked_at_first)
 
 
 class Order(unittest.TestCase):

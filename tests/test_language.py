@@ -122,6 +122,8 @@ class Forms(unittest.TestCase):
             self.assertIsInstance(node, EXPRESSIONS, (name, node.lineno))
         for name, node in nodes(ast.Constant):
             self.assertIn(type(node.value), (int, str, bool, type(None)), (name, node.lineno))
+            if isinstance(node.value, str):
+                self.assertNotIn("%", node.value, (name, node.lineno))
         for name, node in nodes(ast.Div, ast.MatMult, ast.Pow):
             self.fail((name, node))
 

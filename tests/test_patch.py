@@ -3,7 +3,7 @@
 import re
 import unittest
 
-from support import answered, fader, grand, last_answer, master, patch, play, solo, state_after
+from support import answered, fader, grand, last_answer, line, master, patch, play, solo, state_after
 
 GOOD = "1 1 linear 100 0 1\n"
 LINES = "1 5 linear 100 2000 1\n7 5 square 50 0 2\n128 64 soft 1 5000 3\n"
@@ -32,10 +32,6 @@ def expected(text):
             return [-6, place, 2]
         before = numbers[0]
     return [len(lines) - 1]
-
-
-def line(number="1", channel="1", curve="linear", limit="100", load="0", phase="1"):
-    return f"{number} {channel} {curve} {limit} {load} {phase}\n"
 
 
 def dimmers_after(*calls):

@@ -1,10 +1,10 @@
-"""play, master, fader, flash, solo, grand: what each sets, its edges and its refusals."""
+"""The calls that set the board, patch aside: what each sets, its edges and its refusals."""
 
 import unittest
 
 from support import (
-    ADDS, GREATEST, HOLDS_DOWN, answered, board_after, fader, flash, grand, last_answer, master, patch, play, solo,
-    state_after,
+    ADDS, CHANNELS, GREATEST, HOLDS_DOWN, answered, asked_after, black, board_after, fader, flash, free, grand,
+    last_answer, level, master, park, patch, play, solo, state_after,
 )
 
 NO_CHANNELS = (0, 65, 66, 128, GREATEST)
@@ -16,7 +16,7 @@ NO_CHOICES = (2, 3, 255, GREATEST)
 BUSY = (
     patch("3 4 switch 90 100 2\n"), play(1, 11), play(64, 12), master(0, ADDS, 1, 21, 64, 22), fader(0, 23),
     flash(0, 1), master(7, ADDS, 2, 31), fader(7, 32), solo(7, 1), master(3, HOLDS_DOWN, 5, 41), fader(3, 42),
-    grand(51),
+    grand(51), black(1), park(10, 61), park(64, 62),
 )
 
 
@@ -47,6 +47,7 @@ class Case(unittest.TestCase):
         """The call answers this number alone and changes nothing, on a new board and on a busy one."""
         self.assertEqual(last_answer(*BUSY, call), [number], call)
         self.assertEqual(state_after(*BUSY, call), state_after(*BUSY), call)
+        self.assertEqual(asked_after(*BUSY, black(0), call), asked_after(*BUSY, black(0)), call)
 
     def refused_at_first_too(self, call):
         self.refused(call)
@@ -73,21 +74,21 @@ class Busy(unittest.TestCase):
 class Play(Case):
     def test_ordinary_and_edges(self):
         for channel in (1, 2, 33, 63, 64):
-            for level in (0, 1, 50, 99, 100):
-                self.changed(play(channel, level), "played", channel - 1, level)
+            for at in (0, 1, 50, 99, 100):
+                self.changed(play(channel, at), "played", channel - 1, at)
 
     def test_the_last_level_counts(self):
         for levels in ((90, 10), (10, 90), (90, 0)):
-            board = board_after(*[play(7, level) for level in levels])
+            board = board_after(*[play(7, at) for at in levels])
             self.assertEqual(board.played[6], levels[-1])
 
     def test_no_such_channel_or_level(self):
         for channel in NO_CHANNELS:
-            for level in (0, 50, 100, 101):
-                self.refused_at_first_too(play(channel, level))
-        for level in NO_LEVELS:
+            for at in (0, 50, 100, 101):
+                self.refused_at_first_too(play(channel, at))
+        for at in NO_LEVELS:
             for channel in (1, 64):
-                self.refused_at_first_too(play(channel, level))
+                self.refused_at_first_too(play(channel, at))
 
 
 class Master(Case):
@@ -108,8 +109,8 @@ class Master(Case):
 
     def test_one_level_at_each_edge(self):
         for channel in (1, 2, 63, 64):
-            for level in (0, 1, 99, 100):
-                self.set_so(5, ADDS, channel, level)
+            for at in (0, 1, 99, 100):
+                self.set_so(5, ADDS, channel, at)
 
     def test_a_level_for_every_channel(self):
         levels = [number for channel in range(1, 65) for number in (channel, 100 - channel)]
@@ -161,10 +162,10 @@ class Master(Case):
         self.refused_at_first_too(master(0, HOLDS_DOWN, 0, 50, 1, 50))
 
     def test_no_such_level(self):
-        for level in NO_LEVELS:
-            self.refused_at_first_too(master(0, HOLDS_DOWN, 1, level))
-            self.refused_at_first_too(master(0, HOLDS_DOWN, 1, 50, 64, level))
-            self.refused_at_first_too(master(0, HOLDS_DOWN, 1, level, 64, 50))
+        for at in NO_LEVELS:
+            self.refused_at_first_too(master(0, HOLDS_DOWN, 1, at))
+            self.refused_at_first_too(master(0, HOLDS_DOWN, 1, 50, 64, at))
+            self.refused_at_first_too(master(0, HOLDS_DOWN, 1, at, 64, 50))
 
     def test_400_numbers(self):
         rising = [number for channel in range(1, 201) for number in (channel, 50)]
@@ -184,16 +185,16 @@ class Master(Case):
 class Fader(Case):
     def test_ordinary_and_edges(self):
         for number in (0, 1, 3, 6, 7):
-            for level in (0, 1, 50, 99, 100):
-                self.changed(fader(number, level), "masters", number, "fader", level)
+            for at in (0, 1, 50, 99, 100):
+                self.changed(fader(number, at), "masters", number, "fader", at)
 
     def test_no_such_master_or_level(self):
         for number in NO_MASTERS:
-            for level in (0, 50, 100, 101):
-                self.refused_at_first_too(fader(number, level))
-        for level in NO_LEVELS:
+            for at in (0, 50, 100, 101):
+                self.refused_at_first_too(fader(number, at))
+        for at in NO_LEVELS:
             for number in (0, 3, 7):
-                self.refused_at_first_too(fader(number, level))
+                self.refused_at_first_too(fader(number, at))
 
 
 class Keys(Case):
@@ -248,12 +249,88 @@ class Keys(Case):
 
 class Grand(Case):
     def test_ordinary_and_edges(self):
-        for level in (0, 1, 50, 99, 100):
-            self.changed(grand(level), "grand", level)
+        for at in (0, 1, 50, 99, 100):
+            self.changed(grand(at), "grand", at)
 
     def test_no_such_level(self):
-        for level in NO_LEVELS:
-            self.refused_at_first_too(grand(level))
+        for at in NO_LEVELS:
+            self.refused_at_first_too(grand(at))
+
+
+class Black(Case):
+    def test_on_and_off(self):
+        for on in (0, 1):
+            self.changed(black(on), "black", on)
+
+    def test_the_last_counts(self):
+        for keys in ((1, 0), (0, 1), (1, 1), (0, 0), (1, 0, 1)):
+            self.assertEqual(board_after(*[black(on) for on in keys]).black, keys[-1])
+
+    def test_no_such_on(self):
+        for on in NO_CHOICES:
+            self.refused_at_first_too(black(on))
+            self.assertEqual(answered(play(1, 50), black(1), black(on), level(1))[2:], [[-1], [0, 1, 0]])
+            self.assertEqual(answered(play(1, 50), black(0), black(on), level(1))[2:], [[-1], [50, 1, 50]])
+
+
+class Park(Case):
+    def test_ordinary_and_edges(self):
+        for channel in (1, 2, 10, 33, 63, 64):
+            for at in (0, 1, 50, 99, 100):
+                self.changed(park(channel, at), "parked", channel, at)
+
+    def test_every_channel_at_once(self):
+        calls = [park(channel, 100 - channel) for channel in CHANNELS]
+        self.assertEqual(answered(*calls), [[0]] * 64)
+        self.assertEqual(board_after(*calls).parked, {channel: 100 - channel for channel in CHANNELS})
+
+    def test_parked_anew(self):
+        for places in ((90, 10), (10, 90), (90, 0), (0, 0)):
+            calls = [park(7, at) for at in places]
+            self.assertEqual(answered(*calls, level(7)), [[0], [0], [places[1], 1, places[1]]])
+
+    def test_no_such_channel_or_level(self):
+        for channel in NO_CHANNELS:
+            for at in (0, 50, 100, 101, GREATEST):
+                self.refused_at_first_too(park(channel, at))
+        for at in NO_LEVELS:
+            for channel in (1, 10, 64):
+                self.refused_at_first_too(park(channel, at))
+
+
+class Free(Case):
+    def test_a_parked_one(self):
+        for channel in (1, 10, 64):
+            for at in (0, 50, 100):
+                calls = [park(2, 5), park(channel, at), free(channel)]
+                self.assertEqual(answered(*calls), [[0], [0], [0]])
+                self.assertEqual(board_after(*calls).parked, {2: 5})
+                self.assertEqual(state_after(*calls), state_after(park(2, 5)))
+
+    def test_just_that_one(self):
+        expected = state_after(*BUSY)
+        self.assertEqual(expected["parked"], {10: 61, 64: 62})
+        expected["parked"] = {64: 62}
+        self.assertEqual(state_after(*BUSY, free(10)), expected)
+
+    def test_one_that_is_not_parked(self):
+        for channel in (1, 9, 11, 63):
+            self.refused(free(channel), -3)
+        for channel in CHANNELS:
+            self.assertEqual(last_answer(free(channel)), [-3])
+
+    def test_twice(self):
+        self.assertEqual(answered(park(1, 0), free(1), free(1), park(1, 3), free(1)), [[0], [0], [-3], [0], [0]])
+        self.assertEqual(answered(park(1, 4), park(1, 5), free(1), free(1)), [[0], [0], [0], [-3]])
+
+    def test_no_such_channel(self):
+        for channel in NO_CHANNELS:
+            self.refused_at_first_too(free(channel))
+            parked = [park(one, 50) for one in CHANNELS]
+            self.assertEqual(last_answer(*parked, free(channel)), [-1])
+
+    def test_a_refused_park_does_not_park(self):
+        self.assertEqual(answered(park(1, 101), free(1)), [[-1], [-3]])
 
 
 if __name__ == "__main__":
